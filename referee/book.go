@@ -1,0 +1,71 @@
+package referee
+
+import (
+	"slices"
+
+	"roquet/api"
+)
+
+const (
+	firstYear  = 1850
+	lastYear   = 2100
+	mostNumber = 9999 // of an article
+)
+
+// The words between the facts of an article, which are no facts themselves.
+const (
+	wordIf     = "if"
+	wordUnless = "unless"
+	wordThen   = "then"
+)
+
+// CheckBook reports whether a book is valid.
+func CheckBook(b api.Book) api.Errno {
+	if len(b.Articles) > api.MaxArticles {
+		return api.ErrMany
+	}
+	if !isName(b.Name) || !between(b.Year, firstYear, lastYear) || !areArticles(b.Articles) || !areReadOnce(b.Articles) {
+		return api.ErrArg
+	}
+	return api.OK
+}
+
+// areArticles reports whether all articles are valid, and their numbers increase.
+func areArticles(l []api.Article) bool {
+	last := 0
+	for _, a := range l {
+		if !between(a.Number, last+1, mostNumber) || !isArticle(a) {
+			return false
+		}
+		last = a.Number
+	}
+	return true
+}
+
+// isArticle reports whether an article is valid, but for its number.
+func isArticle(a api.Article) bool {
+	return len(a.If) >= 1 && areFacts(a.If) && areFacts(a.Unless) && isFact(a.Then)
+}
+
+// areFacts reports whether these can be the facts for which an article asks, or which it excepts.
+func areFacts(l []string) bool {
+	return len(l) <= api.MaxIfs && !slices.ContainsFunc(l, func(s string) bool { return !isFact(s) })
+}
+
+// isFact reports whether s can be a fact of an article.
+func isFact(s string) bool {
+	return isName(s) && s != wordIf && s != wordUnless && s != wordThen
+}
+
+// areReadOnce reports whether no article depends on itself or on a later one, so that once through is enough.
+func areReadOnce(l []api.Article) bool {
+	comes := map[string]bool{}
+	isToCome := func(fact string) bool { return comes[fact] }
+	for _, a := range slices.Backward(l) {
+		comes[a.Then] = true
+		if slices.ContainsFunc(a.If, isToCome) || slices.ContainsFunc(a.Unless, isToCome) {
+			return false
+		}
+	}
+	return true
+}
