@@ -12,7 +12,7 @@ const (
 	mostNumber = 9999 // of an article
 )
 
-// The words between the facts of an article, which are no facts themselves.
+// The words between the facts of an article, which are no names in a book.
 const (
 	wordIf     = "if"
 	wordUnless = "unless"
@@ -24,7 +24,7 @@ func CheckBook(b api.Book) api.Errno {
 	if len(b.Articles) > api.MaxArticles {
 		return api.ErrMany
 	}
-	if !isName(b.Name) || !between(b.Year, firstYear, lastYear) || !areArticles(b.Articles) || !areReadOnce(b.Articles) {
+	if !isBookName(b.Name) || !between(b.Year, firstYear, lastYear) || !areArticles(b.Articles) || !areReadOnce(b.Articles) {
 		return api.ErrArg
 	}
 	return api.OK
@@ -44,16 +44,16 @@ func areArticles(l []api.Article) bool {
 
 // isArticle reports whether an article is valid, but for its number.
 func isArticle(a api.Article) bool {
-	return len(a.If) >= 1 && areFacts(a.If) && areFacts(a.Unless) && isFact(a.Then)
+	return len(a.If) >= 1 && areFacts(a.If) && areFacts(a.Unless) && isBookName(a.Then)
 }
 
 // areFacts reports whether these can be the facts for which an article asks, or which it excepts.
 func areFacts(l []string) bool {
-	return len(l) <= api.MaxIfs && !slices.ContainsFunc(l, func(s string) bool { return !isFact(s) })
+	return len(l) <= api.MaxIfs && !slices.ContainsFunc(l, func(s string) bool { return !isBookName(s) })
 }
 
-// isFact reports whether s can be a fact of an article.
-func isFact(s string) bool {
+// isBookName reports whether s is a name that is valid in a book: as its own, or as that of a fact.
+func isBookName(s string) bool {
 	return isName(s) && s != wordIf && s != wordUnless && s != wordThen
 }
 

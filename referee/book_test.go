@@ -29,8 +29,11 @@ func goodBooks() map[string]api.Book {
 		"the first year":               {Name: "b", Year: 1850},
 		"the last year":                {Name: "b", Year: 2100},
 		"the longest name":             named("a0123456789z12345678"),
-		"a name that is a word":        named("article"),
-		"a name that can be no fact":   named("then"),
+		"the name article":             named("article"),
+		"the name book":                named("book"),
+		"a name that begins with if":   named("iff"),
+		"a name that ends with then":   named("1then"),
+		"a name of two such words":     named("unlessthen"),
 		"the longest text":             longest(),
 		"as many articles as possible": chain(api.MaxArticles),
 		"the first and last number":    book(article(1, "a then b"), article(9999, "b then c")),
@@ -82,10 +85,9 @@ func badBooks() map[string]api.Book {
 		"an earlier and a later Then":    book(article(4, "a then b"), article(5, "b then c"), article(6, "c then b")),
 		"two articles around each other": book(article(5, "a then b"), article(6, "b then a")),
 	}
-	for _, s := range badNames() {
-		l["the name "+s] = api.Book{Name: s, Year: 2000}
-	}
 	for _, s := range append(badNames(), "if", "unless", "then") {
+		l["the name "+s] = api.Book{Name: s, Year: 2000}
+		l["the name "+s+" and articles"] = api.Book{Name: s, Year: 2000, Articles: laws().Articles}
 		l["the fact "+s+" in If"] = book(api.Article{Number: 5, If: []string{"a", s}, Then: "b"})
 		l["the fact "+s+" in Unless"] = book(api.Article{Number: 5, If: list("a"), Unless: []string{s}, Then: "b"})
 		l["the fact "+s+" as Then"] = book(api.Article{Number: 5, If: list("a"), Then: s})

@@ -95,7 +95,7 @@ func faults(kind rune) []fault {
 	case 'c':
 		return []fault{{api.ErrEqual, func(x *arguments) { x.posts = []int{-1} }}}
 	case 'B':
-		return []fault{{api.ErrArg, func(x *arguments) { x.book.Year = 0 }}, {api.ErrMany, func(x *arguments) { x.book.Articles = make([]api.Article, 65) }}}
+		return []fault{{api.ErrArg, func(x *arguments) { x.book.Year = 0 }}, {api.ErrArg, func(x *arguments) { x.book.Name = "then" }}, {api.ErrMany, func(x *arguments) { x.book.Articles = make([]api.Article, 65) }}}
 	case 'g':
 		return []fault{{api.ErrMany, func(x *arguments) { x.given = make([]string, 65) }}, {api.ErrArg, func(x *arguments) { x.given = []string{"a", ""} }}}
 	case 'f':

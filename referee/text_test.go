@@ -111,11 +111,12 @@ func TestParseLong(t *testing.T) {
 func badTexts() []string {
 	l := []string{
 		"", "\n", " ", "book", "book\n", "book b\n", "book b 2000", "2000 b book\n", "article 5 if a then b\n", "book b 2000\nbook b 2000\n", "book 2000\n", "book  2000\n",
+		"book if 2000\n", "book unless 2000\n", "book then 2000\n",
 		lawsText + "\n", "\n" + lawsText, lawsText + lawsText, lawsText + " ", " " + lawsText, lawsText[:len(lawsText)-1], strings.TrimPrefix(lawsText, "book laws 2021\n"),
 		strings.Repeat("article 1 if a then b\n", 65), "book b 2000\n" + strings.Repeat("article 1 if a then b\n", 65),
 	}
 	for _, x := range [][2]string{
-		{"book laws", "book  laws"}, {"book laws", "book Laws"}, {"book laws", "Book laws"}, {"book laws", "books laws"}, {"book laws ", "book "}, {"laws", "l\u00e4ws"}, {"laws", "laws\u00a0"},
+		{"book laws", "book  laws"}, {"book laws", "book Laws"}, {"book laws", "Book laws"}, {"book laws", "books laws"}, {"book laws ", "book "}, {"book laws", "book if"}, {"book laws", "book unless"}, {"book laws", "book then"}, {"laws", "l\u00e4ws"}, {"laws", "laws\u00a0"},
 		{" 2021\n", " 2021 \n"}, {" 2021\n", " 2021\r\n"}, {" 2021\n", " 2021\n\n"}, {" 2021\n", " 2021 0\n"}, {" 2021\n", "\n"}, {" 2021\n", " "}, {" 2021\n", "\n2021\n"},
 		{"2021", "02021"}, {"2021", "+2021"}, {"2021", "2_021"}, {"2021", "0x7e5"}, {"2021", "1849"}, {"2021", "2101"}, {"2021", "-2021"}, {"2021", "18446744073709553637"}, {"2021", "\u0662021"},
 		{"article 10", "article 010"}, {"article 10", "article 0"}, {"article 10", "article -10"}, {"article 10", "article 20"}, {"article 10", "article 10000"}, {"article 10", "article"}, {"article 10", "10"}, {"article 10", "articles 10"}, {"article 10", "article ten"}, {"article 10", "article 10 10"},
